@@ -81,21 +81,25 @@ func checkRefute(t *testing.T, s structure, f formula, state int, satisfied bool
 // over two Kids, and that they do not take the others.
 func checkProofs(t *testing.T, s structure, f, g formula) {
 	t.Helper()
-	for state := range s.Next {
-		for _, op := range shown {
-			h := node(op, f)
-			if op == "EU" {
-				h = node(op, f, g)
-			}
-			checkWitness(t, s, h, state, far(s, h)[state])
+	for _, op := range shown {
+		h := node(op, f)
+		if op == "EU" {
+			h = node(op, f, g)
+		}
+		for state, satisfied := range far(s, h) {
+			checkWitness(t, s, h, state, satisfied)
 			checkNoRefute(t, s, h, state)
 		}
-		for op := range opposite {
-			h := node(op, f)
-			checkRefute(t, s, h, state, far(s, h)[state])
+	}
+	for op := range opposite {
+		h := node(op, f)
+		for state, satisfied := range far(s, h) {
+			checkRefute(t, s, h, state, satisfied)
 			checkNoWitness(t, s, h, state)
 		}
-		for _, h := range []formula{node("AU", f, g), node("&", f, g), node("|", g, f), node("!", f), node("a"), node("true")} {
+	}
+	for _, h := range []formula{node("AU", f, g), node("&", f, g), node("|", g, f), node("!", f), node("a"), node("true")} {
+		for state := range s.Next {
 			checkNoWitness(t, s, h, state)
 			checkNoRefute(t, s, h, state)
 		}
