@@ -144,8 +144,18 @@ func (g graph) shortest(pairs []arc) []int {
 	return x
 }
 
+// delays returns the arcs as a delay graph: from, to, the Time of the first
+// operation, and no delay.
+func (g graph) delays() [][4]int {
+	var out [][4]int
+	for _, a := range g.arcs {
+		out = append(out, [4]int{a.from, a.to, g.ops[a.from].Time, 0})
+	}
+	return out
+}
+
 // weights returns the matrix of the arcs, with the Time of its first operation
-// for each.
+// for each; there are no more operations than a matrix has rows.
 func (g graph) weights() [][]int {
 	rows := make([][]int, api.MaxSide)
 	for k := range rows {

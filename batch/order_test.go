@@ -22,8 +22,7 @@ func checkStarts(t *testing.T, s shop, order [][]int, span int, starts ...int) {
 	}
 }
 
-// checkNoStarts tests that Starts, Makespan and, if the shop is small, Weights
-// say e.
+// checkNoStarts tests that Starts, Makespan and Weights say e.
 func checkNoStarts(t *testing.T, s shop, order [][]int, e api.Errno) {
 	t.Helper()
 	if l, f := batch.Starts(s, order); len(l) > 0 || f != e {
@@ -32,9 +31,12 @@ func checkNoStarts(t *testing.T, s shop, order [][]int, e api.Errno) {
 	if n, f := batch.Makespan(s, order); n != 0 || f != e {
 		t.Error("Makespan", s, order, n, f, "want", e)
 	}
-	if len(slices.Concat(s.Jobs...)) > 6 {
-		e = api.ErrArg
-	}
+	checkNoWeights(t, s, order, e)
+}
+
+// checkNoWeights tests that Weights says e.
+func checkNoWeights(t *testing.T, s shop, order [][]int, e api.Errno) {
+	t.Helper()
 	if m, f := batch.Weights(s, order); len(m) > 0 || f != e {
 		t.Error("Weights", s, order, m, f, "want", e)
 	}
@@ -153,10 +155,15 @@ func TestWeights(t *testing.T) {
 		all := ordersOf(s)
 		for k := 0; k < len(all); k += 1 + len(all)/20 {
 			arcs := arcsOf(s, all[k])
-			m, e := batch.Weights(s, all[k])
-			if len(ops) > 6 || hasCycle(arcs) {
-				continue // see checkNoStarts
+			if hasCycle(arcs) {
+				checkNoWeights(t, s, all[k], api.ErrLoop)
+				continue
 			}
+			if len(ops) > 6 {
+				checkNoWeights(t, s, all[k], api.ErrArg)
+				continue
+			}
+			m, e := batch.Weights(s, all[k])
 			if e != api.OK || len(m) != 6 {
 				t.Fatal("Weights", s, all[k], m, e)
 			}
@@ -190,8 +197,7 @@ func TestWeights(t *testing.T) {
 	}
 }
 
-// P8.5: a matrix by hand, of 6 operations; and ErrArg for 7 of them, which
-// precedes the other errors.
+// P8.5: a matrix by hand, of 6 operations, and the errors with one more.
 func TestWeightsByHand(t *testing.T) {
 	const no = api.Never
 	s := shop{3, [][]op{{{0, 1}, {1, 2}, {2, 3}}, {{2, 4}, {1, 5}}, {{1, 6}}}}
@@ -205,13 +211,112 @@ func TestWeightsByHand(t *testing.T) {
 	}
 	checkNoStarts(t, s, [][]int{{0}, {4, 5, 1}, {2, 3}}, api.ErrLoop)
 	s.Jobs[2] = append(s.Jobs[2], op{0, 6})
-	for _, order := range [][][]int{{{0, 6}, {1, 5, 4}, {3, 2}}, {{6, 0}, {4, 5, 1}, {2, 3}}, {{0}, {1, 5, 4}, {3, 2}}, nil} {
-		if m, e := batch.Weights(s, order); len(m) > 0 || e != api.ErrArg {
-			t.Error(order, m, e)
-		}
-	}
+	checkNoStarts(t, s, nil, api.ErrForm)
 	checkNoStarts(t, s, [][]int{{0}, {1, 5, 4}, {3, 2}}, api.ErrForm)
 	checkNoStarts(t, s, [][]int{{6, 0}, {4, 5, 1}, {2, 3}}, api.ErrLoop)
+	checkNoWeights(t, s, [][]int{{0, 6}, {1, 5, 4}, {3, 2}}, api.ErrArg)
+}
+
+// spoiled returns slices that are no orders, made of an order.
+func spoiled(order [][]int) [][][]int {
+	out := [][][]int{nil, {}, order[1:], order[:len(order)-1], append(slices.Clone(order), nil)}
+	for m, l := range order {
+		if len(l) == 0 {
+			continue
+		}
+		negative := slices.Clone(l)
+		negative[0] = -1
+		for _, other := range [][]int{nil, l[1:], append(slices.Clone(l), l[0]), append(slices.Clone(l), 9), negative} {
+			changed := slices.Clone(order)
+			changed[m] = other
+			out = append(out, changed)
+		}
+		if next := (m + 1) % len(order); next != m {
+			changed := slices.Clone(order)
+			changed[m], changed[next] = changed[next], changed[m]
+			out = append(out, changed)
+		}
+	}
+	return out
+}
+
+// invalid returns shops that are none, made of a shop.
+func invalid(s shop) []shop {
+	out := []shop{{}, {0, s.Jobs}, {5, s.Jobs}, {s.Machines, append(slices.Clone(s.Jobs), nil)}}
+	for _, o := range []op{{s.Machines, 1}, {-1, 1}, {0, 0}, {0, 21}} {
+		c := copied(s)
+		c.Jobs[0][0] = o
+		out = append(out, c)
+	}
+	return out
+}
+
+// checkErrorsOfWeights tests the order of the errors of Weights on orders that are
+// like this one, which has a cycle or none.
+func checkErrorsOfWeights(t *testing.T, s shop, order [][]int) {
+	t.Helper()
+	wrong := spoiled(order)
+	for _, none := range invalid(s) {
+		checkNoWeights(t, none, order, api.ErrArg)
+		checkNoWeights(t, none, wrong[len(wrong)-1], api.ErrArg)
+	}
+	for _, x := range wrong {
+		checkNoWeights(t, s, x, api.ErrForm)
+	}
+	switch m, e := batch.Weights(s, order); {
+	case hasCycle(arcsOf(s, order)):
+		checkNoWeights(t, s, order, api.ErrLoop)
+	case len(slices.Concat(s.Jobs...)) > 6:
+		checkNoWeights(t, s, order, api.ErrArg)
+	case len(m) != 6 || e != api.OK:
+		t.Error("Weights", s, order, m, e)
+	}
+}
+
+// P8.5: ErrArg for a shop that is none, then ErrForm, ErrLoop, and ErrArg for more
+// than 6 operations, with 6 of them, 7 and 9.
+func TestErrorsOfWeights(t *testing.T) {
+	two := []op{{0, 2}, {1, 3}}
+	back := []op{{1, 4}, {0, 5}}
+	for _, x := range []struct {
+		s          shop
+		good, loop [][]int
+	}{
+		{shop{2, [][]op{two, back, {{1, 1}, {0, 1}}}}, [][]int{{0, 3, 5}, {2, 4, 1}}, [][]int{{3, 0, 5}, {1, 2, 4}}},
+		{shop{3, [][]op{two, back, {{1, 1}, {2, 1}, {0, 1}}}}, [][]int{{0, 3, 6}, {2, 4, 1}, {5}}, [][]int{{3, 0, 6}, {1, 2, 4}, {5}}},
+		// With 9 operations, a cycle of the last four alone, and one of all of them.
+		{shop{4, [][]op{{{0, 20}, {1, 1}, {2, 1}, {3, 1}}, {{2, 1}, {0, 1}, {1, 1}}, {{1, 1}, {0, 1}}}},
+			[][]int{{0, 5, 8}, {1, 7, 6}, {2, 4}, {3}}, [][]int{{0, 8, 5}, {1, 6, 7}, {2, 4}, {3}}},
+		{shop{3, [][]op{{{0, 20}, {1, 20}, {2, 20}}, {{2, 20}, {0, 20}, {1, 20}}, {{1, 20}, {2, 20}, {0, 20}}}},
+			[][]int{{0, 4, 8}, {6, 1, 5}, {3, 7, 2}}, [][]int{{8, 0, 4}, {5, 6, 1}, {2, 3, 7}}},
+	} {
+		for _, order := range [][][]int{x.good, x.loop} {
+			checkErrorsOfWeights(t, x.s, order)
+		}
+		if hasCycle(arcsOf(x.s, x.good)) || !hasCycle(arcsOf(x.s, x.loop)) {
+			t.Error("not as it should be", x)
+		}
+	}
+	// With any number of operations.
+	r := rand.New(rand.NewSource(10))
+	good, loops := map[int]int{}, map[int]int{}
+	for _, s := range shops() {
+		all := ordersOf(s)
+		for range 20 {
+			order := all[r.Intn(len(all))]
+			checkErrorsOfWeights(t, s, order)
+			if n := len(slices.Concat(s.Jobs...)); hasCycle(arcsOf(s, order)) {
+				loops[n]++
+			} else {
+				good[n]++
+			}
+		}
+	}
+	for _, n := range []int{6, 7, 9} {
+		if min(good[n], loops[n]) < 30 {
+			t.Error("too few with", n, "operations", good, loops)
+		}
+	}
 }
 
 // leastBy returns the least makespan by Best.
